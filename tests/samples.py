@@ -65,3 +65,94 @@ def all_ringless(names):
     for orders in subsets(list(itertools.permutations(names, 2))):
         if not goes_round(names, orders):
             yield orders
+
+
+def drawn_names(draw, many):
+    names = set()
+    while len(names) < many:
+        names.add("".join(draw.choice("abcdefghijklmnopqrstuvwxyz") for _ in range(draw.randint(1, 8))))
+    return draw.sample(sorted(names), many)
+
+
+def any_orders(draw, row):
+    share = draw.choice([0.05, 0.15, 0.3, 0.6])
+    return [pair for pair in itertools.combinations(row, 2) if draw.random() < share]
+
+
+def gathering_orders(draw, row):
+    share = draw.choice([0.5, 0.8, 1.0])
+    return [(name, draw.choice(row[place + 1:])) for place, name in enumerate(row[:-1]) if draw.random() < share]
+
+
+def spreading_orders(draw, row):
+    return [(one, other) for other, one in gathering_orders(draw, row[::-1])]
+
+
+def layered_orders(draw, row):
+    layers = []
+    while row:
+        many = draw.randint(1, 4)
+        layers.append(row[:many])
+        row = row[many:]
+    pairs = [pair for one, other in zip(layers, layers[1:]) for pair in itertools.product(one, other)]
+    share = draw.choice([0.5, 0.8, 1.0])
+    return [pair for pair in pairs if draw.random() < share]
+
+
+def with_more_told(draw, names, orders):
+    """The same orders, some told twice, and some told that follow of others, in any sequence."""
+    far = sorted(far_orders(names, orders))
+    more = draw.sample(far, draw.randint(0, min(len(far), 60)))
+    told = (orders + more + more[:5])[:200] if len(orders) <= 130 else list(orders)
+    return draw.sample(told, len(told))
+
+
+SORTS = [any_orders, gathering_orders, spreading_orders, layered_orders]
+
+
+def drawn_case(draw, most, sorts=None, least=0):
+    """Names and orders, as they would be handed in."""
+    names = drawn_names(draw, draw.randint(least, most))
+    orders = draw.choice(sorts or SORTS)(draw, draw.sample(names, len(names)))
+    if draw.random() < 0.5:
+        orders = with_more_told(draw, names, orders)
+    return names, orders
+
+
+def all_by_a_row(row):
+    """Each set of orders in which one told earlier in the row stands ahead of a later one."""
+    return subsets(list(itertools.combinations(row, 2)))
+
+
+def next_done(far, names, done, benches):
+    """All that can be done behind one more turn, a turn with no job among them."""
+    free = [name for name in names if name not in done and all(one in done for one, other in far if other == name)]
+    for many in range(min(len(free), benches) + 1):
+        for turn in itertools.combinations(free, many):
+            yield turn, done | frozenset(turn)
+
+
+def shortest_length(names, orders, benches):
+    """The length of the shortest right plan: all of them are gone through turn by turn."""
+    far = far_orders(names, orders)
+    reached, length = {frozenset()}, 0
+    while frozenset(names) not in reached:
+        reached = {later for done in reached for _, later in next_done(far, names, done, benches)}
+        length += 1
+    return length
+
+
+def scramble(told):
+    """Changes each list and dict of what is told, and those within it."""
+    if isinstance(told, (list, tuple)):
+        for part in told:
+            scramble(part)
+    if isinstance(told, dict):
+        for part in told.values():
+            scramble(part)
+        told.clear()
+        told["scrambled"] = [0]
+    if isinstance(told, list):
+        told.reverse()
+        told.append("scrambled")
+        told[0] = ["scrambled"]

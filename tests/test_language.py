@@ -26,6 +26,10 @@ STATEMENTS = (ast.Assign, ast.AugAssign, ast.If, ast.While, ast.For, ast.Return,
 EXPRESSIONS = (ast.Constant, ast.List, ast.Tuple, ast.Dict, ast.Set, ast.BinOp, ast.UnaryOp, ast.BoolOp, ast.Compare,
                ast.IfExp, ast.Call, ast.Attribute, ast.Subscript, ast.Slice, ast.Name, ast.ListComp, ast.JoinedStr,
                ast.FormattedValue, ast.Lambda)
+KEYWORDS = {"sorted": ["key", "reverse"], "min": ["key", "default"], "max": ["key", "default"], "sum": ["start"],
+            "enumerate": ["start"], "zip": ["strict"]}
+WALKED = ["zip", "enumerate", "reversed", "range", "items", "keys", "values"]
+WALKERS = ["list", "tuple", "dict", "sorted", "sum", "any", "all", "enumerate", "zip", "min", "max", "join"]
 DUNDERS = ["__init__", "__eq__", "__repr__", "__str__", "__len__"]
 
 
@@ -38,6 +42,22 @@ def bound_names(tree):
     names += [node.arg for node in walked(tree, ast.arg)]
     names += [node.name for node in walked(tree, (ast.FunctionDef, ast.ClassDef))]
     return names + [node.attr for node in walked(tree, ast.Attribute) if isinstance(node.ctx, ast.Store)]
+
+
+def called(node):
+    """The last word of what is called, or None."""
+    if not isinstance(node, ast.Call):
+        return None
+    return node.func.attr if isinstance(node.func, ast.Attribute) else getattr(node.func, "id", None)
+
+
+def walked_on_the_spot(tree):
+    """Those nodes that stand where a walk begins."""
+    for node in ast.walk(tree):
+        if isinstance(node, (ast.For, ast.comprehension)):
+            yield node.iter
+        elif called(node) in WALKERS and node.args:
+            yield node.args[0]
 
 
 class Language(unittest.TestCase):
@@ -126,6 +146,25 @@ class Language(unittest.TestCase):
         for name, node in self.each(ast.ListComp):
             self.assertTrue(len(node.generators) == 1 and len(node.generators[0].ifs) <= 1, (name, node.lineno))
         self.assert_none((name, node) for name, node in self.each((ast.Div, ast.MatMult)))
+
+    def test_keywords_of_python_s_own(self):
+        for name, node in self.each(ast.Call):
+            word = called(node)
+            if word in OWN_OF_PYTHON + METHODS:
+                self.assert_none((name, word, each.arg) for each in node.keywords
+                                 if each.arg not in KEYWORDS.get(word, []))
+
+    def test_walked_at_once_and_no_sets_kept(self):
+        for name, tree in self.trees.items():
+            fitting = [id(node) for node in walked_on_the_spot(tree)]
+            kept = [node for node in walked(tree, ast.Call) if called(node) in WALKED and id(node) not in fitting]
+            self.assert_none((name, node.lineno) for node in kept)
+            self.assert_none((name, node.lineno) for node in walked(tree, (ast.Assign, ast.Return, ast.For))
+                             if called(getattr(node, "value", getattr(node, "iter", None))) in ("set", "frozenset"))
+
+    def test_texts(self):
+        self.assert_none((name, node.value) for name, node in self.each(ast.Constant)
+                         if isinstance(node.value, str) and "%" in node.value)
 
     def test_is_stands_beside_none_true_and_false(self):
         for name, node in self.each(ast.Compare):
