@@ -1,4 +1,4 @@
-"""Plans: their faults, the turn of a job, and plans listed by a row."""
+"""Plans: their faults, the turn of a job, the turns that jobs fill, and plans listed by a row."""
 
 from levelbench.errors import NoRow
 from levelbench.kinds import check_benches, is_one_of, own_copy
@@ -50,6 +50,10 @@ def turn_of(plan, name):
         if name in row:
             return number
     return None
+
+
+def turns_filled(many, benches):
+    return (many + benches - 1) // benches
 
 
 def listed(jobs, benches, row):

@@ -1,9 +1,10 @@
-"""What several tests need: odd things, and a plain reckoning of orders to hold the program's against."""
+"""What several tests need: odd things, drawn jobs, and plain reckonings to hold the program's against."""
 
 import itertools
 
 from levelbench.errors import BenchError
 from levelbench.jobs import Jobs
+from levelbench.plans import listed
 
 NO_TEXTS = [None, 0, 1, -7, 10 ** 59, True, False, 2.5, (), ("a",), ("a", "b"), [], ["a"], [["a"], {"a": 1}],
             {}, {"a": 1}, {"a": ["b"]}]
@@ -13,6 +14,23 @@ NO_NAMES = NO_TEXTS + NO_NAME_TEXTS
 NO_BENCHES = [0, -1, -2, -10 ** 59, True, False, None, "", "2", "two", [], [2], (2,), {}, {2: 2}, 2.0]
 MANY_BENCHES = 10 ** 60 - 1
 TWENTY = [letter * 2 for letter in "tsrqponmlkjihgfedcba"]
+
+NONE = Jobs([], [])
+LOOSE = Jobs(["c", "b", "a"], [])
+CHAIN = Jobs(["c", "b", "a"], [("a", "b"), ("b", "c")])
+GATHERING = Jobs(["a", "b", "c"], [("a", "c"), ("b", "c")])
+SPREADING = Jobs(["a", "b", "c"], [("a", "c"), ("a", "b")])
+DIAMOND = Jobs(["a", "b", "c", "d"], [("a", "b"), ("a", "c"), ("b", "d"), ("c", "d")])
+GOOD_ENDS = {"a": 1, "b": 2, "c": 3}
+HUGE = 10 ** 60 - 1
+NO_NUMBERS = [True, False, None, "", "1", "a", [], [1], (), (1,), {}, {1: 1}, 1.0, 2.5]
+BAD_ENDS = (
+    [{}, {"a": 1}, {"a": 1, "b": 2}, {"b": 2, "c": 3}, {"a": 1, "c": 3}]
+    + [{**GOOD_ENDS, key: 4} for key in ["d", "", "A", "aa", 1, None, True, (), ("a",), 2.5]]
+    + [{"a": 1, "b": 2, key: 3} for key in ["d", "", "C", "cc", 3, None, False, ("c",)]]
+    + [{**GOOD_ENDS, name: thing} for thing in NO_NUMBERS for name in "abc"]
+    + [{**GOOD_ENDS, "d": None}, {"a": None}, {1: None}, {None: 1}]
+)
 
 
 def same(one, other):
@@ -32,6 +50,15 @@ def refusal(ask, *things):
     if written(things) != before:
         raise AssertionError(f"{before} became {written(things)}")
     return found
+
+
+def asked(ask, *things):
+    """What is told. What was handed in must have stayed as it was."""
+    before = written(things)
+    told = ask(*things)
+    if written(things) != before:
+        raise AssertionError(f"{before} became {written(things)}")
+    return told
 
 
 def written(things):
@@ -140,6 +167,57 @@ def shortest_length(names, orders, benches):
         reached = {later for done in reached for _, later in next_done(far, names, done, benches)}
         length += 1
     return length
+
+
+def least_lateness(names, orders, benches, ends):
+    """The least lateness of all right plans, gone through turn by turn; as many turns as jobs are enough."""
+    far = far_orders(names, orders)
+    reached = {frozenset(): -10 ** 99}
+    for turn in range(1, len(names) + 1):
+        later = {}
+        for done, late in reached.items():
+            for row, now in next_done(far, names, done, benches):
+                worst = max([late] + [turn - ends[name] for name in row])
+                later[now] = min(worst, later.get(now, worst))
+        reached = later
+    return reached[frozenset(names)]
+
+
+def reckoned_mended(names, orders, benches, ends):
+    """Mended ends by their words: over all numbers e that lie near enough to an end to matter."""
+    far = far_orders(names, orders)
+    near = range(min(ends.values(), default=0) - len(names) - 2, max(ends.values(), default=0) + 3)
+    found = {}
+    while len(found) < len(names):
+        for name in names:
+            behind = [other for other in names if (name, other) in far]
+            if name in found or not all(other in found for other in behind):
+                continue
+            numbers = [ends[name]]
+            for e in near:
+                many = sum(1 for other in behind if found[other] <= e)
+                if many > 0:
+                    numbers.append(e - -(-many // benches))
+            found[name] = min(numbers)
+    return found
+
+
+def drawn_ends(draw, names, plan):
+    """Ends that lie near to where a right plan would meet them; some of them anywhere."""
+    at = {name: turn for turn, row in enumerate(plan, start=1) for name in row}
+    slack = draw.choice([(0, 0), (0, 2), (-1, 0), (-1, 1), (-2, 3), (-5, 9)])
+    ends = {name: at[name] + draw.randint(*slack) for name in draw.sample(names, len(names))}
+    if names and draw.random() < 0.3:
+        ends[draw.choice(names)] = draw.randint(-3, len(names) + 2)
+    return ends
+
+
+def drawn_jobs_and_ends(draw, most, benches, least=0):
+    """On more than two benches gathering ones alone."""
+    names, orders = drawn_case(draw, most, None if benches <= 2 else [gathering_orders], least)
+    jobs = Jobs(names, orders)
+    ends = drawn_ends(draw, names, listed(jobs, benches, draw.sample(names, len(names))))
+    return names, orders, ends
 
 
 def scramble(told):
