@@ -11,6 +11,7 @@ NO_TEXTS = [None, 0, 1, -7, 10 ** 59, True, False, 2.5, (), ("a",), ("a", "b"), 
 NO_NAME_TEXTS = ["", " ", "abcdefghi", "abcdefghijklmnop", "A", "aB", "Ab", "a1", "1", "a b", " a", "a ",
                  "a-b", "a_b", "<", ";", "/", "`a", "a{", "@"]
 NO_NAMES = NO_TEXTS + NO_NAME_TEXTS
+NO_KEYS = NO_NAME_TEXTS + [None, 0, 1, True, 2.5, (), ("a",), (1, 2)]
 NO_BENCHES = [0, -1, -2, -10 ** 59, True, False, None, "", "2", "two", [], [2], (2,), {}, {2: 2}, 2.0]
 MANY_BENCHES = 10 ** 60 - 1
 TWENTY = [letter * 2 for letter in "tsrqponmlkjihgfedcba"]
@@ -80,6 +81,16 @@ def far_orders(names, orders):
                 if (one, middle) in far and (middle, other) in far:
                     far.add((one, other))
     return far
+
+
+def near_orders(names, orders):
+    """The pairs that follow of the told ones, without those that have a job between."""
+    far = far_orders(names, orders)
+    return [(x, y) for x, y in far if not any((x, z) in far and (z, y) in far for z in names)]
+
+
+def reckoned_height(pairs, name):
+    return 1 + max([reckoned_height(pairs, other) for one, other in pairs if one == name], default=0)
 
 
 def goes_round(names, orders):

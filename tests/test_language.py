@@ -30,6 +30,7 @@ KEYWORDS = {"sorted": ["key", "reverse"], "min": ["key", "default"], "max": ["ke
             "enumerate": ["start"], "zip": ["strict"]}
 WALKED = ["zip", "enumerate", "reversed", "range", "items", "keys", "values"]
 WALKERS = ["list", "tuple", "dict", "sorted", "sum", "any", "all", "enumerate", "zip", "min", "max", "join"]
+CHANGES = ["append", "clear", "extend", "insert", "pop", "remove", "reverse", "setdefault", "update"]
 DUNDERS = ["__init__", "__eq__", "__repr__", "__str__", "__len__"]
 
 
@@ -162,9 +163,41 @@ class Language(unittest.TestCase):
             self.assert_none((name, node.lineno) for node in walked(tree, (ast.Assign, ast.Return, ast.For))
                              if called(getattr(node, "value", getattr(node, "iter", None))) in ("set", "frozenset"))
 
+    def test_what_a_loop_walks_is_not_changed_in_it(self):
+        for name, node in self.each(ast.For):
+            source = node.iter.args[0] if called(node.iter) in WALKED and getattr(node.iter, "args", []) else node.iter
+            if called(source) in ("items", "keys", "values"):
+                source = source.func.value
+            changed = [each.func.value for each in walked(node, ast.Call) if called(each) in CHANGES]
+            changed += [each.value for each in walked(node, ast.Subscript) if isinstance(each.ctx, ast.Store)]
+            self.assertNotIn(ast.dump(source), [ast.dump(each) for each in changed], (name, node.lineno))
+
+    def test_min_and_max_walk_nothing_kept_beside_keywords(self):
+        for name, node in self.each(ast.Call):
+            if called(node) in ("min", "max") and node.args and called(node.args[0]) in WALKED:
+                self.assertEqual((len(node.args), node.keywords), (1, []), (name, node.lineno))
+
+    def test_values_of_the_tops_are_plain_and_bound_once(self):
+        for name, tree in self.trees.items():
+            given = [node for node in tree.body if isinstance(node, ast.Assign)]
+            bound = [node.targets[0].id for node in given]
+            self.assertEqual(len(bound), len(set(bound)), name)
+            for node in given:
+                self.assert_none((name, each.lineno) for each in walked(node.value, ast.expr)
+                                 if not isinstance(each, (ast.Constant, ast.Tuple)))
+
+    def test_sorting_keys_and_written_truths(self):
+        for name, node in self.each(ast.keyword):
+            if node.arg == "key":
+                self.assertIsInstance(node.value, ast.Lambda, (name, node.value.lineno))
+            if node.arg in ("reverse", "strict"):
+                self.assertIn(getattr(node.value, "value", None), (True, False), (name, node.value.lineno))
+
     def test_texts(self):
         self.assert_none((name, node.value) for name, node in self.each(ast.Constant)
                          if isinstance(node.value, str) and "%" in node.value)
+        for name, node in self.each(ast.FormattedValue):
+            self.assertTrue(isinstance(node.value, ast.Name) and node.format_spec is None, (name, node.lineno))
 
     def test_is_stands_beside_none_true_and_false(self):
         for name, node in self.each(ast.Compare):

@@ -7,9 +7,8 @@ import unittest
 
 from levelbench.errors import NoBench, NoWindow, TooMany
 from levelbench.windows import windowed
-from samples import HUGE, MANY_BENCHES, NO_BENCHES, NO_NAME_TEXTS, TWENTY, asked, drawn_names, refusal, same, scramble
+from samples import HUGE, MANY_BENCHES, NO_BENCHES, NO_KEYS, TWENTY, asked, drawn_names, refusal, same, scramble
 
-NO_KEYS = NO_NAME_TEXTS + [None, 0, 1, True, 2.5, (), ("a",), (1, 2)]
 NO_WINDOWS = [None, 0, 7, True, 2.5, "", "a", "12", [], [1, 2], [1], {}, {1: 2}, {1: 1, 2: 2}, (), (1,), (1, 2, 3),
               (True, 2), (1, True), (False, 2), (0, False), (None, 2), (1, None), (None, None), ("1", 2), (1, "2"),
               ("a", "b"), ([1], 2), (1, [2]), (1.0, 2), (1, 2.0), ((1, 2), 3), ((1, 2),), ([1, 2],)]

@@ -9,17 +9,12 @@ from levelbench.jobs import Jobs
 from levelbench.plans import fault
 from levelbench.woods import is_gathering, is_spreading, wood_plan
 from samples import (CHAIN, DIAMOND, GATHERING, LOOSE, MANY_BENCHES, NO_BENCHES, NONE, SPREADING, TWENTY,
-                     all_by_a_row, asked, drawn_case, drawn_names, far_orders, gathering_orders, refusal, scramble,
-                     shortest_length, spreading_orders, with_more_told)
+                     all_by_a_row, asked, drawn_case, drawn_names, far_orders, gathering_orders, near_orders,
+                     reckoned_height, refusal, scramble, shortest_length, spreading_orders, with_more_told)
 
 CHAIN_TOLD_TWICE = Jobs(["c", "b", "a"], [("a", "b"), ("b", "c"), ("a", "c"), ("a", "b")])
 ZIGZAG = Jobs(["a", "b", "c", "d"], [("a", "c"), ("b", "c"), ("b", "d")])
 APART = Jobs(["a", "b", "c", "d", "e", "f"], [("a", "c"), ("b", "c"), ("d", "e"), ("d", "f")])
-
-
-def near_orders(names, orders):
-    far = far_orders(names, orders)
-    return [(x, y) for x, y in far if not any((x, z) in far and (z, y) in far for z in names)]
 
 
 def reckoned_sorts(names, orders):
@@ -27,10 +22,6 @@ def reckoned_sorts(names, orders):
     gathering = all(sum(1 for x, y in near if x == name) <= 1 for name in names)
     spreading = all(sum(1 for x, y in near if y == name) <= 1 for name in names)
     return (gathering, spreading)
-
-
-def reckoned_height(far, name):
-    return 1 + max([reckoned_height(far, other) for one, other in far if one == name], default=0)
 
 
 def length(names, orders, benches):
